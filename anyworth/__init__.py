@@ -1,0 +1,1 @@
+"""A database whose facts bear worths, and the comparison of its questions."""
