@@ -2,7 +2,9 @@
 
 import unittest
 
+from anyworth.formulas import read_formula
 from anyworth.houses import kinds_of, plus, times
+from anyworth.reducing import reduced
 from anyworth.tabled import fault_of
 
 
@@ -21,6 +23,13 @@ class ExampleTest(unittest.TestCase):
 
     def test_fault(self):
         self.assertEqual(fault_of(("table", 1, ((0, 1), (1, 1)), ((0, 0), (1, 1)))), ("times turns", 0, 1, 0))
+
+    def test_read_formula(self):
+        formula = ((((1, 1), (2, 1)), 2), (((3, 2),), 1))
+        self.assertEqual(read_formula(("counts",), formula, {1: 2, 2: 5, 3: 3}), 29)
+
+    def test_reduced(self):
+        self.assertEqual(reduced("prices", ((((1, 1),), 2), (((1, 1), (2, 1)), 1))), ((((1, 1),), 1),))
 
 
 if __name__ == "__main__":
