@@ -222,9 +222,14 @@ def product_of(house, worths):
 
 def multiple(house, worth, n):
     """Return the sum of n times the worth."""
-    total = zero(house)
-    # The binary digits of n, the greatest first: doubling takes few steps.
-    for place in range(n.bit_length() - 1, -1, -1):
+    if n == 0:
+        return zero(house)
+    # A worth that is its own double stays the same, and needs no more sums.
+    if n > 1 and plus(house, worth, worth) == worth:
+        return worth
+    total = worth
+    # The binary digits of n behind the first one: doubling takes few steps.
+    for place in range(n.bit_length() - 2, -1, -1):
         total = plus(house, total, total)
         if ((n >> place) & 1) == 1:
             total = plus(house, total, worth)

@@ -2,10 +2,14 @@
 
 import unittest
 
+from anyworth.errors import BadText
 from anyworth.formulas import read_formula
 from anyworth.houses import kinds_of, plus, times
+from anyworth.plainly import plain_answers
+from anyworth.reading import read_question
 from anyworth.reducing import reduced
 from anyworth.tabled import fault_of
+from anyworth.writing import write_question
 
 
 class ExampleTest(unittest.TestCase):
@@ -30,6 +34,25 @@ class ExampleTest(unittest.TestCase):
 
     def test_reduced(self):
         self.assertEqual(reduced("prices", ((((1, 1),), 2), (((1, 1), (2, 1)), 1))), ((((1, 1),), 1),))
+
+    def test_write_question(self):
+        likes = ("likes", (("var", "x"), ("value", "tea")))
+        self.assertEqual(write_question((1, (((("var", "x"),), (likes,)),))), '(x) if likes(x, "tea")')
+
+    def test_read_question(self):
+        likes, is_there = ("likes", (("var", "x"), ("var", "y"))), ("open", (("var", "y"),))
+        self.assertEqual(read_question('(x) if likes(x, y) and open(y); (3) if true'),
+                         (1, (((("var", "x"),), (likes, is_there)), ((("value", 3),), ()))))
+
+    def test_bad_text(self):
+        with self.assertRaises(BadText) as caught:
+            read_question('(x) if likes(x')
+        self.assertEqual(caught.exception.at, 14)
+
+    def test_plain_answers(self):
+        roads = [("road", ("a", "b"), 4), ("road", ("b", "c"), 3), ("road", ("a", "c"), 9)]
+        question = read_question('(x, z) if road(x, y) and road(y, z)')
+        self.assertEqual(plain_answers(("least",), roads, question), ((("a", "c"), 7),))
 
 
 if __name__ == "__main__":

@@ -6,9 +6,7 @@ import unittest
 
 from anyworth.values import compare_values, is_row, is_word, sorted_rows
 from tests.samples import BIG
-
-NO_WORDS = ["", "A", "aB", "Tea", "teA", "0", "a0", "0a", " ", " a", "a ", "a b", "\n", "a\n", "\na", "a\tb",
-            "_", "a_b", "-", "a-b", '"a"', "`", "{", "a`", "a{", "@", "[", "Z", "1", "-1", "a,b", "\x00", "\x7f"]
+from tests.terms import NO_WORDS
 
 # Each value is below the next one.
 VALUES = [-BIG, -10, -9, -1, 0, 1, 2, 9, 10, BIG, "a", "aa", "ab", "abc", "b", "ba", "z", "za", "zz"]

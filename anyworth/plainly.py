@@ -1,0 +1,87 @@
+"""The worths of rows in questions, found by trying the valuations one by one."""
+
+from anyworth.houses import one, sum_of, times, zero
+from anyworth.values import sorted_rows
+
+
+def store_worth(house, facts, name, row):
+    """Return the worth that the store of the facts gives the name and the row."""
+    return sum_of(house, [worth for told, values, worth in facts if told == name and values == row])
+
+
+def plain_worth(house, facts, question, row):
+    """Return the worth of the row in the question."""
+    stored = stored_rows(house, facts)
+    products = []
+    for head, body in question[1]:
+        start = extended({}, head, row)
+        if start is not None:
+            products.extend([product for _, product in valuations(house, stored, body, start)])
+    return sum_of(house, products)
+
+
+def plain_answers(house, facts, question):
+    """Return the rows of the question whose worth is not zero, with their worths."""
+    stored = stored_rows(house, facts)
+    products = {}
+    for head, body in question[1]:
+        for valuation, product in valuations(house, stored, body, {}):
+            row = tuple([value_of(term, valuation) for term in head])
+            products.setdefault(row, []).append(product)
+    answers = [(row, sum_of(house, products[row])) for row in sorted_rows(list(products))]
+    nothing = zero(house)
+    return tuple([(row, worth) for row, worth in answers if worth != nothing])
+
+
+def stored_rows(house, facts):
+    """Return a dict from the names of the facts to their rows with the worths of these."""
+    worths = {}
+    for name, row, worth in facts:
+        worths.setdefault((name, row), []).append(worth)
+    stored = {}
+    for (name, row), parts in worths.items():
+        stored.setdefault(name, []).append((row, sum_of(house, parts)))
+    return stored
+
+
+def valuations(house, stored, body, start):
+    """Return the valuations that go on from the start and turn all atoms into stored rows.
+
+    Each one stands beside the product of the worths of these rows.
+    """
+    found = [(start, one(house))]
+    for name, terms in body:
+        longer = []
+        for valuation, product in found:
+            longer.extend(with_atom(house, stored.get(name, []), terms, valuation, product))
+        found = longer
+    return found
+
+
+def with_atom(house, rows, terms, valuation, product):
+    """Return the valuations, with their products, that also turn the terms into one of the rows."""
+    found = []
+    for row, worth in rows:
+        longer = extended(valuation, terms, row)
+        if longer is not None:
+            found.append((longer, times(house, product, worth)))
+    return found
+
+
+def extended(valuation, terms, row):
+    """Return the valuation with what the terms need to turn into the row, or None."""
+    if len(terms) != len(row):
+        return None
+    longer = dict(valuation)
+    for (kind, held), value in zip(terms, row):
+        if kind == "var" and longer.setdefault(held, value) != value:
+            return None
+        if kind == "value" and held != value:
+            return None
+    return longer
+
+
+def value_of(term, valuation):
+    """Return the value that the valuation turns the term into."""
+    kind, held = term
+    return valuation[held] if kind == "var" else held
