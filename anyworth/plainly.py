@@ -1,6 +1,7 @@
-"""The worths of rows in questions, found by trying the valuations one by one."""
+"""The worths of rows in questions, found by trying the valuations."""
 
 from anyworth.houses import one, sum_of, times, zero
+from anyworth.questions import variables_in, variables_in_body
 from anyworth.values import sorted_rows
 
 
@@ -16,7 +17,7 @@ def plain_worth(house, facts, question, row):
     for head, body in question[1]:
         start = extended({}, head, row)
         if start is not None:
-            products.extend([product for _, product in valuations(house, stored, body, start)])
+            products.extend([product for _, product in valuations(house, stored, body, start, ())])
     return sum_of(house, products)
 
 
@@ -25,7 +26,7 @@ def plain_answers(house, facts, question):
     stored = stored_rows(house, facts)
     products = {}
     for head, body in question[1]:
-        for valuation, product in valuations(house, stored, body, {}):
+        for valuation, product in valuations(house, stored, body, {}, head):
             row = tuple([value_of(term, valuation) for term in head])
             products.setdefault(row, []).append(product)
     answers = [(row, sum_of(house, products[row])) for row in sorted_rows(list(products))]
@@ -44,17 +45,20 @@ def stored_rows(house, facts):
     return stored
 
 
-def valuations(house, stored, body, start):
+def valuations(house, stored, body, start, head):
     """Return the valuations that go on from the start and turn all atoms into stored rows.
 
-    Each one stands beside the product of the worths of these rows.
+    Each one stands beside the product of the worths of these rows, and tells the values of
+    the head's variables alone: those that do not differ in them are one, with the sum.
     """
     found = [(start, one(house))]
-    for name, terms in body:
+    # Few rows come first, for then few valuations wait for the atoms that end most of them.
+    atoms = sorted(body, key=lambda atom: len(stored.get(atom[0], [])))
+    for at, (name, terms) in enumerate(atoms):
         longer = []
         for valuation, product in found:
             longer.extend(with_atom(house, stored.get(name, []), terms, valuation, product))
-        found = longer
+        found = put_together(house, longer, variables_in(head) + variables_in_body(atoms[at + 1:]))
     return found
 
 
@@ -66,6 +70,17 @@ def with_atom(house, rows, terms, valuation, product):
         if longer is not None:
             found.append((longer, times(house, product, worth)))
     return found
+
+
+def put_together(house, found, needed):
+    """Return the valuations of the needed variables, with the sums of the products."""
+    kept = {variable: True for variable in needed}
+    products = {}
+    for valuation, product in found:
+        # All these valuations give the same variables their values, in the same order.
+        rest = tuple([pair for pair in valuation.items() if pair[0] in kept])
+        products.setdefault(rest, []).append(product)
+    return [(dict(rest), sum_of(house, parts)) for rest, parts in products.items()]
 
 
 def extended(valuation, terms, row):

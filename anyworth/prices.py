@@ -34,13 +34,16 @@ def added_rows(row, more):
 
 def cheapest_rows(rows):
     """Return, as a worth, the rows that no other one of them undercuts."""
-    kept = []
-    # A row stands behind all rows that undercut it, and where one of them is not
-    # kept, a kept one undercuts both: so it is enough to ask the kept ones.
+    totals = {}
     for row in sorted(set(rows)):
-        if not is_undercut(row, kept):
-            kept.append(row)
-    return tuple(kept)
+        totals.setdefault(sum(row), []).append(row)
+    kept = []
+    # What undercuts a row has a smaller total, and where it is not kept, a kept one
+    # undercuts both: so it is enough to ask the kept ones with smaller totals.
+    for total in sorted(totals):
+        cheap = [row for row in totals[total] if not is_undercut(row, kept)]
+        kept.extend(cheap)
+    return tuple(sorted(kept))
 
 
 def is_undercut(row, others):

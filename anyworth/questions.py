@@ -1,7 +1,7 @@
 """Questions: which ones are valid, and joins with other variables or terms."""
 
 from anyworth.errors import NoQuestion
-from anyworth.values import is_value, is_word
+from anyworth.values import is_value, is_word, value_place
 
 WIDEST = 8
 MOST_JOINS = 12
@@ -71,3 +71,9 @@ def put_terms(join, terms):
 def put_in(told, terms):
     """Return the told terms with the variables replaced that have a term."""
     return tuple([terms.get(term[1], term) if term[0] == "var" else term for term in told])
+
+
+def term_place(term):
+    """Return what terms are ordered by: values before variables."""
+    kind, held = term
+    return (0, value_place(held)) if kind == "value" else (1, held)

@@ -2,9 +2,11 @@
 
 import unittest
 
+from anyworth.comparing import compare, within
 from anyworth.errors import BadText
 from anyworth.formulas import read_formula
 from anyworth.houses import kinds_of, plus, times
+from anyworth.leaning import least_question
 from anyworth.plainly import plain_answers
 from anyworth.reading import read_question
 from anyworth.reducing import reduced
@@ -53,6 +55,20 @@ class ExampleTest(unittest.TestCase):
         roads = [("road", ("a", "b"), 4), ("road", ("b", "c"), 3), ("road", ("a", "c"), 9)]
         question = read_question('(x, z) if road(x, y) and road(y, z)')
         self.assertEqual(plain_answers(("least",), roads, question), ((("a", "c"), 7),))
+
+    def test_compare(self):
+        twice = read_question('(x) if a(x); (x) if a(x)')
+        once = read_question('(x) if a(x)')
+        self.assertEqual((compare("once", twice, once)[0], compare("all", twice, once)[0]), ("same", "apart"))
+
+    def test_within(self):
+        together = read_question('() if a(x) and b(y)')
+        apart = read_question('() if a(x); () if b(x)')
+        self.assertEqual((within("sets", together, apart)[0], within("sets", apart, together)[0]), ("within", "not"))
+
+    def test_least_question(self):
+        least = least_question("yes", read_question('(x) if e(x, y) and e(x, z)'))
+        self.assertEqual(len(least[1][0][1]), 1)
 
 
 if __name__ == "__main__":

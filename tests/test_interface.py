@@ -44,6 +44,22 @@ INTERFACE = {
         "plain_worth": "house facts question row",
         "plain_answers": "house facts question",
     },
+    "matching": {
+        "matchings": "join other",
+        "is_matching": "join other mapping",
+        "image": "join mapping",
+        "fits": "kind join other mapping",
+        "covers": "join images",
+    },
+    "comparing": {
+        "judge": "kind question other paper",
+        "judge_within": "kind question other paper",
+        "compare": "kind question other",
+        "within": "kind question other",
+        "parts": "case question other",
+        "parts_from": "case question other",
+    },
+    "leaning": {"least_question": "kind question"},
 }
 
 

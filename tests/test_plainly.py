@@ -257,6 +257,24 @@ class AnswersTest(unittest.TestCase):
         answers = plain_answers(COUNTS, facts, question)
         self.assertEqual(answers, tuple((tuple(range(k, k + 8)), 12 * 2 ** 8) for k in range(200)))
 
+    def test_many_valuations(self):
+        # 8 atoms over 8 facts each have 8 ** 8 valuations.
+        star = "() if " + " and ".join(f"e(x, {y})" for y in "abcdefgh")
+        lone = "() if " + " and ".join(f"e({x}, {y})" for x, y in zip("abcdefgh", "ijklmnop"))
+        facts = [("e", (0, k), k + 1) for k in range(8)]
+        self.check(COUNTS, facts, star + "; " + lone, (((), 2 * 36 ** 8),))
+        self.check(COUNTS, facts + [("e", (1, 1), 2)], star, (((), 36 ** 8 + 2 ** 8),))
+        facts = [("e", (0, k), (k,)) for k in range(8)]
+        self.check(("sums",), facts, star + "; " + lone, (((), tuple(range(57))),))
+        self.check(("sums",), facts, lone.replace("()", "(a)"), (((0,), tuple(range(57))),))
+        facts = [("e", (0, k), ((k, 7 - k),)) for k in range(8)]
+        self.check(("prices", 2), facts, star, (((), tuple((k, 56 - k) for k in range(57))),))
+
+    def test_atoms_with_few_rows_that_stand_last(self):
+        facts = [("a", (k, k), 2) for k in range(7)] + [("b", (6, 5, 4, 3, 2, 1, 0), 3)]
+        text = " and ".join(f"a({x}, {y})" for x, y in zip("abcdefg", "hijklmn"))
+        self.check(COUNTS, facts, f"(h) if {text} and b(a, b, c, d, e, f, g)", (((6,), 3 * 2 ** 7),))
+
     def test_by_the_definition(self):
         chance = random.Random(41)
         for house, worths in WORTHS.items():
