@@ -29,9 +29,14 @@ def plain_answers(house, facts, question):
         for valuation, product in valuations(house, stored, body, {}, head):
             row = tuple([value_of(term, valuation) for term in head])
             products.setdefault(row, []).append(product)
-    answers = [(row, sum_of(house, products[row])) for row in sorted_rows(list(products))]
+    return added_up(house, products)
+
+
+def added_up(house, parts):
+    """Return the rows of the dict with the sums of their lists of worths, where these are not zero."""
     nothing = zero(house)
-    return tuple([(row, worth) for row, worth in answers if worth != nothing])
+    sums = {row: sum_of(house, worths) for row, worths in parts.items()}
+    return tuple([(row, sums[row]) for row in sorted_rows(list(sums)) if sums[row] != nothing])
 
 
 def stored_rows(house, facts):

@@ -100,8 +100,10 @@ class CompareTest(CompareCase):
 
     def test_a_join_twice(self):
         self.check_same("(x) if a(x); (y) if a(y)", "(x) if a(x)", "once", "sets", "prices", "yes")
-        self.check_same("(x) if a(x); (y) if a(y); (x) if a(x)", "(x) if a(x); (x) if a(x)", "once", "sets", "prices", "yes")
-        self.check_same("(x) if a(x); (1) if b()", "(1) if b(); (x) if a(x); (1) if b()", "once", "sets", "prices", "yes")
+        self.check_same("(x) if a(x); (y) if a(y); (x) if a(x)", "(x) if a(x); (x) if a(x)", "once", "sets", "prices",
+                        "yes")
+        self.check_same("(x) if a(x); (1) if b()", "(1) if b(); (x) if a(x); (1) if b()", "once", "sets", "prices",
+                        "yes")
         self.check_same("() if a(x) and a(y); () if a(x)", "() if a(x); () if a(y); () if a(x) and a(z)",
                         "once", "sets", "prices", "yes")
 
@@ -166,7 +168,8 @@ class CompareTest(CompareCase):
         self.check_same("none 2", "(x, x) if a(x); (1, 2) if true")
 
     def test_joins_that_together_cover_another_one(self):
-        self.check_same("() if a(x); () if b(x); () if a(x) and b(y)", "() if a(x); () if b(x)", "sets", "prices", "yes")
+        self.check_same("() if a(x); () if b(x); () if a(x) and b(y)", "() if a(x); () if b(x)", "sets", "prices",
+                        "yes")
         self.check_same("() if a(); () if b(); () if c(); () if a() and b() and c()", "() if a(); () if b(); () if c()",
                         "sets", "prices", "yes")
         self.check_same("() if a() and b(); () if b() and c(); () if a() and b() and c()",
@@ -174,11 +177,13 @@ class CompareTest(CompareCase):
         self.check_same("() if a() and b(); () if a() and c(); () if a() and b() and c()",
                         "() if a() and b(); () if a() and c(); () if a() and b() and c(); () if a() and b() and c()",
                         "once", "sets", "prices", "yes")
-        self.check_same("() if a() and b(); () if c(); () if a() and c()", "() if a() and b(); () if c()", "prices", "yes")
+        self.check_same("() if a() and b(); () if c(); () if a() and c()", "() if a() and b(); () if c()", "prices",
+                        "yes")
         self.check_same("(x) if e(x, y); (x) if e(x, y) and e(x, z)", "(x) if e(x, y)", "sets", "prices", "yes")
 
     def test_the_same_for_some_kinds_alone(self):
-        self.check_same("() if a(x) and a(x); () if a(x) and a(y)", "() if a(x) and a(y)", "once", "sets", "prices", "yes")
+        self.check_same("() if a(x) and a(x); () if a(x) and a(y)", "() if a(x) and a(y)", "once", "sets", "prices",
+                        "yes")
         self.check_same("() if a(x) and a(y); () if a(x) and a(x) and a(x)", "() if a(x) and a(x); () if a(x) and a(y)",
                         "sets", "prices", "yes")
         self.check_same("() if a(x) and a(y); () if a(x)", "() if a(x) and a(x); () if a(x)", "sets", "prices", "yes")
@@ -272,7 +277,8 @@ class ManyTest(CompareCase):
                 told[kind, results[kind]] = told.get((kind, results[kind]), 0) + 1
                 if kind != "all":
                     self.check_within(kind, question, other, is_within(kind, question, other))
-            for kind, wider in [("all", "once"), ("once", "sets"), ("once", "prices"), ("sets", "yes"), ("prices", "yes")]:
+            for kind, wider in [("all", "once"), ("once", "sets"), ("once", "prices"), ("sets", "yes"),
+                                ("prices", "yes")]:
                 self.assertLessEqual(results[kind], results[wider])
         self.assertGreater(min(told.values()), 50)
         self.assertEqual(len(told), 10)

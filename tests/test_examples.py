@@ -10,7 +10,9 @@ from anyworth.leaning import least_question
 from anyworth.plainly import plain_answers
 from anyworth.reading import read_question
 from anyworth.reducing import reduced
+from anyworth.store import Store
 from anyworth.tabled import fault_of
+from anyworth.views import expanded
 from anyworth.writing import write_question
 
 
@@ -69,6 +71,18 @@ class ExampleTest(unittest.TestCase):
     def test_least_question(self):
         least = least_question("yes", read_question('(x) if e(x, y) and e(x, z)'))
         self.assertEqual(len(least[1][0][1]), 1)
+
+    def test_store(self):
+        store = Store(("least",))
+        store.do([("tell", "road", ("a", "b"), 4), ("tell", "road", ("b", "c"), 3)])
+        number = store.keep(read_question('(x, z) if road(x, y) and road(y, z)'))
+        self.assertEqual((store.kept(number), store.formulas(number), store.read_in(("counts",), {1: 2, 2: 5}, number)),
+                         (((("a", "c"), 7),), ((("a", "c"), ((((1, 1), (2, 1)), 1),)),), ((("a", "c"), 10),)))
+
+    def test_expanded(self):
+        ways = read_question('(x, z) if road(x, y) and road(y, z)')
+        question = read_question('(x) if way(x, "c")')
+        self.assertEqual(expanded(question, (("way", ways),))[1][0][1][1][1][1], ("value", "c"))
 
 
 if __name__ == "__main__":

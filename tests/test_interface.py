@@ -60,7 +60,39 @@ INTERFACE = {
         "parts_from": "case question other",
     },
     "leaning": {"least_question": "kind question"},
+    "sheets": {
+        "atom_sheet": "house facts atom",
+        "times_sheets": "house sheet other",
+        "summed_out": "house sheet column",
+    },
+    "engine": {"join_sheet": "house facts join order", "engine_answers": "house facts question"},
+    "views": {
+        "unified": "terms others",
+        "expanded": "question views",
+        "with_views": "house facts views",
+    },
+    "store": {"Store": "house"},
 }
+
+# The methods of the classes, with their arguments.
+METHODS = {
+    ("formulas", "Formula"): {"__add__": "other", "__mul__": "other", "__contains__": "tag",
+                              "__call__": "house worths"},
+    ("store", "Store"): {
+        "do": "deeds",
+        "facts": "",
+        "ask": "question",
+        "keep": "question",
+        "drop": "number",
+        "kept": "number",
+        "formulas": "number",
+        "changes": "",
+        "sources": "number row",
+        "read_in": "house worths number",
+        "without": "numbers number",
+    },
+}
+PROPERTIES = {("formulas", "Formula"): "monomials", ("store", "Store"): "store_house"}
 
 
 class InterfaceTest(unittest.TestCase):
@@ -73,6 +105,18 @@ class InterfaceTest(unittest.TestCase):
                     self.assertEqual(listed.__module__, "anyworth." + module_name)
                     self.assertEqual(listed.__name__, name)
                     self.assertEqual(list(inspect.signature(listed).parameters), arguments.split())
+
+    def test_methods(self):
+        for (module_name, class_name), methods in METHODS.items():
+            listed = vars(getattr(importlib.import_module("anyworth." + module_name), class_name))
+            for name, arguments in methods.items():
+                with self.subTest(name=name):
+                    parameters = list(inspect.signature(listed[name]).parameters)
+                    self.assertEqual(parameters[1:], arguments.split())
+            self.assertIsInstance(listed[PROPERTIES[module_name, class_name]], property)
+        of_tag = vars(importlib.import_module("anyworth.formulas").Formula)["of_tag"]
+        self.assertIsInstance(of_tag, staticmethod)
+        self.assertEqual(list(inspect.signature(of_tag.__func__).parameters), ["tag"])
 
 
 if __name__ == "__main__":

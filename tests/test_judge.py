@@ -201,7 +201,8 @@ class JudgeTest(unittest.TestCase):
                 if kind != "all" and told != "all":
                     half = paper[0]
                     self.assertIs(judge_within(kind, question, other, half), is_good_half(kind, question, other, half))
-                    self.assertIs(judge_within(kind, question, other, paper), is_good_half(kind, question, other, paper))
+                    self.assertIs(judge_within(kind, question, other, paper),
+                                  is_good_half(kind, question, other, paper))
 
     def test_deep_papers(self):
         question = read_question("(x) if a(x)")

@@ -76,7 +76,8 @@ class MatchingsTest(unittest.TestCase):
         self.check("(x, y) if a(x) and a(y)", "(y, z) if a(y) and b(z)")
 
     def test_values_in_atoms(self):
-        self.check("() if a(1, x)", '() if a(1, y) and a(2, z) and a(u, v) and a(1, "a")', map_of(x=["a"]), map_of(x="y"))
+        self.check("() if a(1, x)", '() if a(1, y) and a(2, z) and a(u, v) and a(1, "a")', map_of(x=["a"]),
+                   map_of(x="y"))
         self.check("() if a(x)", "() if a(1)", map_of(x=[1]))
         self.check("() if a(1)", "() if a(x)")
         self.check('() if a("x")', "() if a(x)")
@@ -140,7 +141,8 @@ class MatchingsTest(unittest.TestCase):
         self.assertEqual(len(found), 8 ** 4)
         self.assertEqual(found, sorted(found))
         self.assertEqual(len(set(found)), 8 ** 4)
-        wide = join_of("() if " + " and ".join("n(" + ", ".join(f"{x}{y}" for y in "stuvwxyz") + ")" for x in "abcdefgh"))
+        rows = [", ".join(x + y for y in "stuvwxyz") for x in "abcdefgh"]
+        wide = join_of("() if " + " and ".join(f"n({row})" for row in rows))
         loop = join_of("() if n(1, 2, 3, 4, 5, 6, 7, 8)")
         (mapping,) = matchings(wide, loop)
         self.assertEqual(mapping, tuple((x + y, val(at + 1)) for x in "abcdefgh" for at, y in enumerate("stuvwxyz")))
@@ -193,7 +195,8 @@ class IsMatchingTest(unittest.TestCase):
 
     def test_other_terms(self):
         for at, (name, good) in enumerate(self.GOOD):
-            for term in [var("a"), var("b"), var("c"), var("x"), var("z"), val("a"), val("b"), val(3), val("c"), val(-3),
+            for term in [var("a"), var("b"), var("c"), var("x"), var("z"), val("a"), val("b"), val(3), val("c"),
+                         val(-3),
                          val(4), var("aa")]:
                 mapping = self.GOOD[:at] + ((name, term),) + self.GOOD[at + 1:]
                 self.check(mapping, term == good or mapping == map_of(x="a", y="b", z="a"))
@@ -236,7 +239,8 @@ class IsMatchingTest(unittest.TestCase):
 class ImageTest(unittest.TestCase):
     def test_the_order_of_the_body(self):
         join = join_of('(x) if e(x, y) and a(3) and b("x") and e(y, x) and c()')
-        expected = (("e", (val(4), var("y"))), ("a", (val(3),)), ("b", (val("x"),)), ("e", (var("y"), val(4))), ("c", ()))
+        expected = (("e", (val(4), var("y"))), ("a", (val(3),)), ("b", (val("x"),)), ("e", (var("y"), val(4))),
+                    ("c", ()))
         self.assertEqual(image(join, map_of(x=[4], y="y")), expected)
         expected = (("e", (var("y"), var("x"))), ("a", (val(3),)), ("b", (val("x"),)), ("e", (var("x"), var("y"))),
                     ("c", ()))

@@ -41,19 +41,21 @@ class PartsTest(unittest.TestCase):
         self.check(("sums",), [("a", (), (1, 2)), ("b", (), (2,))], (), "() if a()", "() if b()", True, True)
         self.check(("sums",), [("a", (), (1, 2)), ("b", (), (2,))], (), "() if b()", "() if a()", True, False)
         self.check(("sums",), [("a", (), (1, 2)), ("b", (), (2, 3))], (), "() if b()", "() if a()", True, True)
-        self.check(("families",), [("a", (), (1,)), ("b", (), (2,))], (), "() if a()", "() if a(); () if b()", True, False)
+        self.check(("families",), [("a", (), (1,)), ("b", (), (2,))], (), "() if a()", "() if a(); () if b()", True,
+                   False)
         self.check(("modulo", 6), [("a", (), 3), ("b", (), 3)], (), "() if a(); () if b()", "none 0", False, False)
-        self.check(("prices", 2), [("a", (), ((1, 1),)), ("b", (), ((1, 2),))], (), "() if b()", "() if a()", True, False)
+        self.check(("prices", 2), [("a", (), ((1, 1),)), ("b", (), ((1, 2),))], (), "() if b()", "() if a()", True,
+                   False)
 
     def test_facts_with_the_same_name_and_row(self):
         facts = [("a", (1,), 2), ("a", (1,), 3), ("b", (1,), 5)]
         self.check(COUNTS, facts, (1,), "(x) if a(x)", "(x) if b(x)", False, True)
         self.check(COUNTS, facts[:2] + facts, (1,), "(x) if a(x)", "(x) if b(x)", True, True)
         self.check(COUNTS, facts, (1,), "(x) if a(x) and a(x)", "(x) if b(x) and b(x)", False, True)
-        self.check(("sums",), [("a", (), (0,)), ("a", (), (1,)), ("b", (), (0, 1))], (), "() if a()", "() if b()", False,
-                   False)
-        self.check(("formulas",), [("a", (), tag(1)), ("a", (), tag(2)), ("b", (), tag(1))], (), "() if a()", "() if b()",
-                   True, True)
+        self.check(("sums",), [("a", (), (0,)), ("a", (), (1,)), ("b", (), (0, 1))], (), "() if a()", "() if b()",
+                   False, False)
+        self.check(("formulas",), [("a", (), tag(1)), ("a", (), tag(2)), ("b", (), tag(1))], (), "() if a()",
+                   "() if b()", True, True)
 
     def test_rows_of_another_length(self):
         facts = [("a", (1,), 2), ("a", (), 3), ("a", (1, 1), 7)]
