@@ -53,5 +53,5 @@ def integers_in(question):
     found = []
     for head, body in question[1]:
         for terms in [head] + [told for _, told in body]:
-            found.extend([held for kind, held in terms if kind == "value" and isinstance(held, int)])
+            found.extend([held for _, held in terms if isinstance(held, int)])
     return found

@@ -69,26 +69,13 @@ def is_fitting(kind, join, other, mapping):
 
 
 def is_pair(pair, many):
-    """Tell whether this is a pair of one of so many indexes and of something in the form of a map."""
-    return is_tuple_of(pair, 2) and is_between(pair[0], 0, many - 1) and is_map(pair[1])
+    """Tell whether this is a pair of one of so many indexes and of a tuple of pairs."""
+    return is_tuple_of(pair, 2) and is_between(pair[0], 0, many - 1) and are_pairs(pair[1])
 
 
-def is_map(mapping):
-    """Tell whether this has the form of a map."""
-    return isinstance(mapping, tuple) and all([is_binding(binding) for binding in mapping])
-
-
-def is_binding(binding):
-    """Tell whether this is a pair of a string and something in the form of a term."""
-    return is_tuple_of(binding, 2) and isinstance(binding[0], str) and is_term(binding[1])
-
-
-def is_term(term):
-    """Tell whether this has the form of a term."""
-    if not is_tuple_of(term, 2):
-        return False
-    kind, held = term
-    return (kind == "var" and isinstance(held, str)) or (kind == "value" and isinstance(held, (int, str)))
+def are_pairs(mapping):
+    """Tell whether this is a tuple of pairs; what stands in them, a matching tells."""
+    return isinstance(mapping, tuple) and all([is_tuple_of(binding, 2) for binding in mapping])
 
 
 def compare(kind, question, other):
