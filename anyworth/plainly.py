@@ -4,6 +4,8 @@ from anyworth.houses import one, sum_of, times, zero
 from anyworth.questions import variables_in, variables_in_body
 from anyworth.values import sorted_rows
 
+FEW = 1000
+
 
 def store_worth(house, facts, name, row):
     """Return the worth that the store of the facts gives the name and the row."""
@@ -53,17 +55,22 @@ def stored_rows(house, facts):
 def valuations(house, stored, body, start, head):
     """Return the valuations that go on from the start and turn all atoms into stored rows.
 
-    Each one stands beside the product of the worths of these rows, and tells the values of
-    the head's variables alone: those that do not differ in them are one, with the sum.
+    Each one stands beside the product of the worths of these rows. Of many valuations, those
+    that give the variables of the head and of the atoms to come alike are one, with the sum.
     """
     found = [(start, one(house))]
     # Few rows come first, for then few valuations wait for the atoms that end most of them.
     atoms = sorted(body, key=lambda atom: len(stored.get(atom[0], [])))
+    are_many = False
     for at, (name, terms) in enumerate(atoms):
         longer = []
         for valuation, product in found:
             longer.extend(with_atom(house, stored.get(name, []), terms, valuation, product))
-        found = put_together(house, longer, variables_in(head) + variables_in_body(atoms[at + 1:]))
+        # Few of them stay apart, as a sum on the way may be longer than what it becomes a part of.
+        are_many = are_many or len(longer) > FEW
+        if are_many:
+            longer = put_together(house, longer, variables_in(head) + variables_in_body(atoms[at + 1:]))
+        found = longer
     return found
 
 

@@ -275,6 +275,14 @@ class AnswersTest(unittest.TestCase):
         text = " and ".join(f"a({x}, {y})" for x, y in zip("abcdefg", "hijklmn"))
         self.check(COUNTS, facts, f"(h) if {text} and b(a, b, c, d, e, f, g)", (((6,), 3 * 2 ** 7),))
 
+    def test_sums_of_the_products_alone(self):
+        # The sum of the worths under e alone would have 2 ** 60 members.
+        whole = 2 ** 60 - 1
+        facts = [("e", (0, k), (2 ** k,)) for k in range(60)] + [("g", (0, k), (whole,)) for k in range(9)]
+        for text in ["() if e(x, y) and g(x, z)", "() if g(x, z) and e(x, y)", "() if g(x, z) and g(x, y) and e(x, z)"]:
+            self.check(("families",), facts, text, (((), (whole,)),))
+        self.check(("families",), facts, "(y) if e(x, y) and g(x, y)", tuple(((k,), (whole,)) for k in range(9)))
+
     def test_by_the_definition(self):
         chance = random.Random(41)
         for house, worths in WORTHS.items():
